@@ -1,8 +1,6 @@
 package tenant
 
 import (
-	"cmp"
-
 	"casemate/api"
 	"casemate/entry"
 )
@@ -10,11 +8,11 @@ import (
 // find is the key of a block that a volume has, where it is, and whether it was written.
 func (t *Tenant) find(volume, block int) (uint64, entry.Block, bool, api.Errno) {
 	x, e := t.Volume(volume)
-	if isNone(e) {
+	if e != api.OK {
 		return 0, entry.Block{}, false, e
 	}
-	key, wrong := entry.BlockKey(volume, block)
-	if e := cmp.Or(wrong, e); e != api.OK {
+	key, e := entry.BlockKey(volume, block)
+	if e != api.OK {
 		return 0, entry.Block{}, false, e
 	}
 	if block >= x.Blocks {

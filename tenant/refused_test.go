@@ -224,7 +224,7 @@ func TestTurnedTold(t *testing.T) {
 	b.free(t)
 }
 
-// P24.4: what the arguments alone tell is told ahead of a tree that is not as it was.
+// P24.2 to P24.4: what the arguments alone tell is told ahead of a tree that is not as it was; but not what hangs on whether the volume is there, since that can't be known then.
 func TestTurnedArguments(t *testing.T) {
 	b, at := ready(t)
 	x := b.x
@@ -239,13 +239,13 @@ func TestTurnedArguments(t *testing.T) {
 			_, f := x.Volume(9)
 			for i, c := range [][]api.Errno{
 				{x.Create(0, 0), x.Create(9, 5), x.Remove(0), x.Remove(9), x.Resize(0, 0), x.Resize(9, 5), x.Snapshot(0, 1), x.Snapshot(1, 9), x.Snapshot(1, 0), f},
-				{x.Create(5, 0), x.Create(1, 257), x.Resize(1, 0), x.Resize(5, 257)},
-				{x.Create(5, 1), x.Remove(1), x.Resize(1, 5), x.Snapshot(1, 5), x.Snapshot(1, 1), e},
+				{x.Create(5, 0), x.Create(1, 257)},
+				{x.Create(5, 1), x.Remove(1), x.Resize(1, 5), x.Resize(1, 0), x.Resize(5, 257), x.Snapshot(1, 5), x.Snapshot(1, 1), e},
 				append(asks(0, -1), asks(9, 0)...),
-				append(asks(1, -1), asks(1, 256)...),
+				append(asks(1, -1), asks(5, 256)...),
 				append(asks(1, 0), asks(1, 255)...),
 			} {
-				want := []api.Errno{api.ErrVolume, api.ErrArg, api.ErrIntegrity, api.ErrVolume, api.ErrBlock, api.ErrIntegrity}[i]
+				want := []api.Errno{api.ErrVolume, api.ErrArg, api.ErrIntegrity, api.ErrVolume, api.ErrIntegrity, api.ErrIntegrity}[i]
 				for _, e := range c {
 					wantCode(t, "a call of a root that is turned", e, want)
 				}
@@ -266,7 +266,7 @@ func TestTurnedSnapshot(t *testing.T) {
 				return
 			}
 			found++
-			for to, want := range map[int]api.Errno{0: api.ErrVolume, 1: api.ErrThere, 5: api.ErrIntegrity, 9: api.ErrVolume} {
+			for to, want := range map[int]api.Errno{0: api.ErrVolume, 1: api.ErrIntegrity, 5: api.ErrIntegrity, 9: api.ErrVolume} {
 				b.wantSame(t, "Snapshot", func() { wantCode(t, "Snapshot", b.x.Snapshot(4, to), want) })
 			}
 			b.wantSame(t, "Snapshot", func() { wantCode(t, "Snapshot", b.x.Snapshot(1, 4), api.ErrIntegrity) })
@@ -274,5 +274,32 @@ func TestTurnedSnapshot(t *testing.T) {
 	}
 	if found == 0 {
 		t.Error("no node has one of both descriptions alone")
+	}
+}
+
+// P24.2, P24.3: of a volume that is not there, where that can't be told, nothing is told that would say that it is.
+func TestTurnedMissing(t *testing.T) {
+	b, at := ready(t)
+	found := 0
+	for _, sector := range b.nodes(t) {
+		b.turned(t, sector, func() {
+			for _, n := range []int{5, 8} {
+				_, e := b.x.Volume(n)
+				if e == api.ErrVolume {
+					continue
+				}
+				found++
+				b.wantSame(t, "calls of a volume that is not there", func() {
+					_, _, f := b.x.Block(n, 256)
+					_, g := b.x.Clear(n, -1)
+					for _, e := range []api.Errno{e, f, g, b.x.Set(n, 256, at), b.x.Snapshot(n, 1), b.x.Snapshot(n, n), b.x.Resize(n, 0), b.x.Resize(n, 257)} {
+						wantCode(t, "a call of a volume that is not there", e, api.ErrIntegrity)
+					}
+				})
+			}
+		})
+	}
+	if found < 3 {
+		t.Errorf("%d nodes lead to none", found)
 	}
 }

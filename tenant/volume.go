@@ -1,7 +1,6 @@
 package tenant
 
 import (
-	"cmp"
 	"math"
 
 	"casemate/api"
@@ -12,11 +11,6 @@ import (
 
 // countKey is the key of the count of the volumes that a tenant ever had.
 const countKey = 0
-
-// isNone tells whether an error says that there is no tenant, or no such volume. These are named ahead of all errors of arguments, and those ahead of the tree's.
-func isNone(e api.Errno) bool {
-	return e == api.ErrNil || e == api.ErrVolume
-}
 
 // Volume is a volume's description.
 func (t *Tenant) Volume(volume int) (entry.Volume, api.Errno) {
@@ -135,12 +129,10 @@ func (t *Tenant) Remove(volume int) api.Errno {
 func (t *Tenant) Resize(volume, blocks int) api.Errno {
 	x, e := t.Volume(volume)
 	switch {
-	case isNone(e):
+	case e != api.OK:
 		return e
 	case !mayHave(blocks):
 		return api.ErrArg
-	case e != api.OK:
-		return e
 	}
 	x.Blocks = blocks
 	first, last, _ := row(volume)
@@ -178,11 +170,10 @@ func (t *Tenant) Snapshot(from, to int) api.Errno {
 	if e != api.OK {
 		return e
 	}
-	_, e = t.Volume(from)
-	if isNone(e) {
+	if _, e := t.Volume(from); e != api.OK {
 		return e
 	}
-	if e := cmp.Or(t.vacant(to), e); e != api.OK {
+	if e := t.vacant(to); e != api.OK {
 		return e
 	}
 	first, last, _ := row(from)

@@ -222,8 +222,8 @@ func TestDown(t *testing.T) {
 		u.wantRefused(t, 1, 0, api.ErrDown)
 		u.wantRefused(t, 5, 0, api.ErrDown)
 		u.wantRefused(t, 9, 0, api.ErrVolume)
-		u.wantRefused(t, 1, 256, api.ErrBlock)
-		u.wantRefused(t, 1, -1, api.ErrBlock)
+		u.wantRefused(t, 1, 256, api.ErrDown)
+		u.wantRefused(t, 1, -1, api.ErrDown)
 		for n, want := range map[int]api.Errno{0: api.ErrVolume, 1: api.ErrDown, 9: api.ErrVolume} {
 			if used, e := u.v.Used(n); used != 0 || e != want {
 				t.Fatalf("Used(%d): %d, %v", n, used, e)
